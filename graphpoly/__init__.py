@@ -1,0 +1,1 @@
+"""Graphs' polynomials, exactly."""

@@ -1,0 +1,119 @@
+"""How calls are handed over and answers given back, and that nothing else happens."""
+
+import contextlib
+import inspect
+import io
+import time
+import unittest
+
+from graphpoly.graphs import answers
+from tests.helper import ask, begin, building, colourings, edge, flat, points, split_answers, tutte
+
+LINE = flat([begin(), edge(0, 1), points(3), edge(0, 1), edge(1, 2), edge(5, 0), edge(2, 0), tutte(2, 0), tutte(17, 0),
+             colourings(3), colourings(-1), points(0), begin(), tutte(0, 0)])
+ANSWERED = [1, 0, 1, -4, 1, 0, 1, 0, 1, 1, 1, -1, 1, 2, 2, 0, 1, 1, -1, 33, 0, 6] + [0] * 31
+ANSWERED += [1, -1, 1, -1, 1, 0, 1, -4]
+SECONDS_FOR_A_LINE = 10
+
+
+class ReadOnlyList(list):
+    def refuse(self, *what):
+        raise AssertionError("the list that was handed in is being changed")
+
+    append = clear = extend = insert = pop = remove = reverse = sort = refuse
+    __setitem__ = __delitem__ = __iadd__ = __imul__ = refuse
+
+
+class Form(unittest.TestCase):
+    def test_for_each_call_how_many_numbers_then_these(self):
+        self.assertEqual(answers(LINE), ANSWERED)
+
+    def test_begin_alone(self):
+        self.assertEqual(answers([0]), [1, 0])
+
+    def test_numbers_that_look_like_calls_are_not_taken_for_calls(self):
+        self.assertEqual(answers([0, 1, 2, 2, 0, 1, 3, 1, 0, 4, 2])[:13], [1, 0, 1, 0, 1, 0, 2, 0, 1, 33, 0, 2, 0])
+
+    def test_a_list_of_plain_whole_numbers_is_given_back(self):
+        told = answers(LINE)
+        self.assertIs(type(told), list)
+        self.assertEqual({type(number) for number in told}, {int})
+
+    def test_colourings_are_always_0_and_32_numbers_from_0_to_255(self):
+        for n, edges in ((1, []), (1, [(0, 0)]), (16, []), (16, [(a, a + 1) for a in range(14)])):
+            for k in (0, 1, 2, 65535, 65536):
+                answer = ask(*building(n, edges), colourings(k))[-1]
+                self.assertEqual((len(answer), answer[0]), (33, 0))
+                self.assertTrue(all(0 <= byte <= 255 for byte in answer[1:]))
+
+    def test_the_argument_is_called_calls(self):
+        self.assertEqual(list(inspect.signature(answers).parameters), ["calls"])
+        self.assertEqual(answers(calls=[0, 1, 5]), [1, 0, 1, 0])
+
+
+class NothingElse(unittest.TestCase):
+    def test_the_list_is_as_it_was(self):
+        handed = list(LINE)
+        answers(handed)
+        self.assertEqual(handed, LINE)
+
+    def test_the_list_is_not_changed_for_a_while_either(self):
+        self.assertEqual(answers(ReadOnlyList(LINE)), ANSWERED)
+
+    def test_the_same_list_twice_gives_the_same(self):
+        handed = list(LINE)
+        self.assertEqual(answers(handed), answers(handed))
+
+    def test_nothing_is_kept_from_one_time_to_the_next(self):
+        first = answers(LINE)
+        answers(flat(building(3, [(0, 1), (1, 2)])))
+        self.assertEqual(answers([0, 3, 0, 0]), [1, 0, 1, -4])
+        self.assertEqual(answers(LINE), first)
+
+    def test_what_was_given_back_is_the_callers_own(self):
+        first = answers(LINE)
+        first.clear()
+        self.assertEqual(answers(LINE), ANSWERED)
+
+    def test_nothing_is_printed(self):
+        printed = io.StringIO()
+        with contextlib.redirect_stdout(printed), contextlib.redirect_stderr(printed):
+            answers(LINE)
+        self.assertEqual(printed.getvalue(), "")
+
+
+class LineAtItsLimits(unittest.TestCase):
+    def assert_in_time(self, calls):
+        self.assertEqual(len(calls), 60)
+        handed = flat(calls)
+        started = time.monotonic()
+        told = answers(handed)
+        self.assertLess(time.monotonic() - started, SECONDS_FOR_A_LINE)
+        self.assertEqual(len(split_answers(told)), 60)
+        return split_answers(told)
+
+    def test_queries_behind_the_edges(self):
+        calls = [begin()] * 24 + building(16, [(a, a + 1) for a in range(14)])
+        calls += [tutte(i, 0) for i in range(5, 15)] + [colourings(k) for k in range(65527, 65537)]
+        told = self.assert_in_time(calls)
+        self.assertEqual(told[40:50], [[0, 0]] * 9 + [[0, 1]])
+
+    def test_queries_between_the_edges(self):
+        calls = [begin()] * 24 + [begin(), points(16)]
+        for a in range(14):
+            calls += [edge(a, 15), tutte(a + 1, 0)]
+        calls += [colourings(65536)] * 6
+        told = self.assert_in_time(calls)
+        self.assertEqual(told[27:54:2], [[0, 1]] * 14)
+
+    def test_a_dense_graph(self):
+        edges = [(a, b) for a in range(7) for b in range(7, 9)]
+        calls = [begin()] * 24 + building(16, edges) + [tutte(1, 1), colourings(3)] * 10
+        self.assert_in_time(calls)
+
+    def test_60_times_points(self):
+        self.assertEqual(self.assert_in_time([begin()] + [points(16)] * 59), [[0]] * 60)
+
+
+if __name__ == "__main__":
+    unittest.main()
