@@ -1,7 +1,12 @@
 """The calls on a graph, handed over and answered as lists of whole numbers."""
 
 from graphpoly.polynomials import colouring_count
+from graphpoly.polynomials import flow_count
+from graphpoly.polynomials import forest_count
+from graphpoly.polynomials import holding_count
+from graphpoly.polynomials import order_count
 from graphpoly.polynomials import tutte_coefficient
+from graphpoly.ranks import part_count
 from graphpoly.ranks import rank_table
 
 BEGIN = 0
@@ -9,9 +14,14 @@ POINTS = 1
 EDGE = 2
 TUTTE = 3
 COLOURINGS = 4
+FLOWS = 5
+HOLDING = 6
+FORESTS = 7
+ORDERS = 8
+PARTS = 9
 
 # By a call's number: how many whole numbers stand behind it.
-NUMBER_COUNTS = (0, 1, 2, 2, 1)
+NUMBER_COUNTS = (0, 1, 2, 2, 1, 1, 1, 1, 0, 0)
 
 OUT_OF_RANGE = -1
 FULL = -2
@@ -20,6 +30,7 @@ NO_GRAPH = -4
 MOST_POINTS = 16
 MOST_EDGES = 40
 MOST_COLOURS = 65536
+HIGHEST_FLOW_MODULUS = 64
 TOLD_BYTES = 32
 
 
@@ -98,13 +109,49 @@ def colourings(graph, k):
     return [0] + low_bytes(colouring_count(graph.table(), graph.point_count, k))
 
 
+def flows(graph, k):
+    if outside(k, 1, HIGHEST_FLOW_MODULUS):
+        return [OUT_OF_RANGE]
+    return [0] + low_bytes(flow_count(graph.table(), len(graph.edges), k))
+
+
+def holding(graph, i):
+    if outside(i, 0, MOST_EDGES):
+        return [OUT_OF_RANGE]
+    return [0, holding_count(graph.table(), i)]
+
+
+def forests(graph, i):
+    if outside(i, 0, MOST_EDGES):
+        return [OUT_OF_RANGE]
+    return [0, forest_count(graph.table(), i)]
+
+
+def orders(graph):
+    return [0, order_count(graph.table())]
+
+
+def parts(graph):
+    return [part_count(graph.point_count, graph.edges)]
+
+
 def graph_answer(graph, call, numbers):
     """The answer to a call that needs a graph."""
     if call == EDGE:
         return edge(graph, numbers[0], numbers[1])
     if call == TUTTE:
         return tutte(graph, numbers[0], numbers[1])
-    return colourings(graph, numbers[0])
+    if call == COLOURINGS:
+        return colourings(graph, numbers[0])
+    if call == FLOWS:
+        return flows(graph, numbers[0])
+    if call == HOLDING:
+        return holding(graph, numbers[0])
+    if call == FORESTS:
+        return forests(graph, numbers[0])
+    if call == ORDERS:
+        return orders(graph)
+    return parts(graph)
 
 
 def line_answer(line, call, numbers):

@@ -1,4 +1,4 @@
-"""What comes of a graph's rank table: coefficients and values of its polynomials."""
+"""What comes of a graph's rank table: coefficients and values of its polynomials, and counts of sets."""
 
 
 def binomial(n, k):
@@ -52,4 +52,36 @@ def colouring_count(table, point_count, k):
     for rank, size in table:
         ways = raised(k, point_count - rank)
         total += signed(table[(rank, size)] * ways, size)
+    return total
+
+
+def flow_count(table, edge_count, k):
+    """How many flows there are by k.
+
+    If only the edges of a set may have a number other than 0, but needn't, the numbers that leave no
+    rest at any point come in k to the power of the set's edges less its rank ways; by inclusion and
+    exclusion over the sets, those with a 0 nowhere are left.
+    """
+    total = 0
+    for rank, size in table:
+        ways = raised(k, size - rank)
+        total += signed(table[(rank, size)] * ways, edge_count - size)
+    return total
+
+
+def holding_count(table, i):
+    """How many sets of i edges have as many parts as all edges, which is: the same rank."""
+    return table.get((full_rank(table), i), 0)
+
+
+def forest_count(table, i):
+    """How many sets of i edges have the rank i."""
+    return table.get((i, i), 0)
+
+
+def order_count(table):
+    """How many orders there are: the value of Tutte's polynomial at x = 2, y = 0 (Stanley)."""
+    total = 0
+    for rank, size in table:
+        total += signed(table[(rank, size)], size - rank)
     return total

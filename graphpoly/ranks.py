@@ -8,6 +8,14 @@ def joined(labels, a, b):
     return tuple([low if label == high else label for label in labels])
 
 
+def part_count(point_count, edges):
+    """How many parts all edges make; worked out without the table, which takes far longer."""
+    labels = tuple(range(point_count))
+    for a, b in edges:
+        labels = joined(labels, a, b)
+    return len(set(labels))
+
+
 def add_sizes(found, labels, sizes):
     known = found.get(labels)
     if known is None:

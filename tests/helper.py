@@ -29,6 +29,26 @@ def colourings(k):
     return [4, k]
 
 
+def flows(k):
+    return [5, k]
+
+
+def holding(i):
+    return [6, i]
+
+
+def forests(i):
+    return [7, i]
+
+
+def orders():
+    return [8]
+
+
+def parts():
+    return [9]
+
+
 def flat(calls):
     return [number for call in calls for number in call]
 
@@ -115,6 +135,66 @@ def tutte_by_sets(n, edges):
 
 def colourings_one_by_one(n, edges, k):
     return sum(all(colours[a] != colours[b] for a, b in edges) for colours in product(range(k), repeat=n))
+
+
+def flows_one_by_one(n, edges, k):
+    """How many ways there are to give each edge 1 to k - 1 so that each point's rest by k is 0."""
+    count = 0
+    for numbers in product(range(1, k), repeat=len(edges)):
+        rests = [0] * n
+        for (a, b), number in zip(edges, numbers):
+            rests[a] -= number
+            rests[b] += number
+        count += all(rest % k == 0 for rest in rests)
+    return count
+
+
+def flows_edge_by_edge(edges, k):
+    """The same for many edges and large k, by leaving out an edge and by drawing it together."""
+    if not edges:
+        return 1
+    (a, b), others = edges[0], edges[1:]
+    if a == b:
+        return (k - 1) * flows_edge_by_edge(others, k)
+    drawn = [(a if c == b else c, a if d == b else d) for c, d in others]
+    return flows_edge_by_edge(drawn, k) - flows_edge_by_edge(others, k)
+
+
+def sets_one_by_one(n, edges, wanted):
+    """By size from 0 to 40: how many sets of edges there are of which wanted(set's size, set's parts) holds."""
+    counts = [0] * 41
+    for taken in product((False, True), repeat=len(edges)):
+        chosen = [ends for ends, is_in in zip(edges, taken) if is_in]
+        counts[len(chosen)] += wanted(len(chosen), part_count(n, chosen))
+    return counts
+
+
+def holding_one_by_one(n, edges):
+    all_parts = part_count(n, edges)
+    return sets_one_by_one(n, edges, lambda size, parts_of_set: parts_of_set == all_parts)
+
+
+def forests_one_by_one(n, edges):
+    return sets_one_by_one(n, edges, lambda size, parts_of_set: n - parts_of_set == size)
+
+
+def goes_round(n, arrows):
+    """Whether one can go round: points that no arrow leads to are taken away until there are none such."""
+    left = set(range(n))
+    while True:
+        led_to = {b for a, b in arrows if a in left}
+        free = left - led_to
+        if not free:
+            return bool(left)
+        left -= free
+
+
+def orders_one_by_one(n, edges):
+    count = 0
+    for turned in product((False, True), repeat=len(edges)):
+        arrows = [(b, a) if back else (a, b) for (a, b), back in zip(edges, turned)]
+        count += not goes_round(n, arrows)
+    return count
 
 
 def thirty_two_bytes(number):

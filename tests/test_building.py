@@ -2,7 +2,8 @@
 
 import unittest
 
-from tests.helper import HIGHEST, LOWEST, ask, begin, colourings, edge, points, thirty_two_bytes, tutte
+from tests.helper import HIGHEST, LOWEST, ask, begin, colourings, edge, flows, forests, holding, orders, parts, points
+from tests.helper import thirty_two_bytes, tutte
 
 
 class Begin(unittest.TestCase):
@@ -28,6 +29,20 @@ class NoGraph(unittest.TestCase):
         wrong += [tutte(-1, 0), tutte(17, 0), tutte(0, -1), tutte(0, 41), tutte(HIGHEST, LOWEST)]
         wrong += [colourings(-1), colourings(65537), colourings(LOWEST), colourings(HIGHEST)]
         self.assertEqual(ask(begin(), *wrong), [[0]] + [[-4]] * len(wrong))
+
+    def test_minus_4_comes_ahead_of_minus_1_in_flows_holding_and_forests(self):
+        wrong = [flows(k) for k in (0, 65, -1, LOWEST, HIGHEST)]
+        wrong += [call(i) for call in (holding, forests) for i in (-1, 41, LOWEST, HIGHEST)]
+        self.assertEqual(ask(begin(), *wrong), [[0]] + [[-4]] * len(wrong))
+        self.assertEqual(ask(begin(), points(2), begin(), *wrong), [[0]] * 3 + [[-4]] * len(wrong))
+
+    def test_flows_holding_forests_orders_and_parts_leave_no_graph(self):
+        asked = [flows(1), holding(0), forests(0), orders(), parts()]
+        for call in asked:
+            told = ask(begin(), call, *asked, edge(0, 0), tutte(0, 0), colourings(1))
+            self.assertEqual(told, [[0]] + [[-4]] * 9, call)
+            told = ask(begin(), points(2), edge(0, 1), begin(), call, *asked, edge(0, 0))
+            self.assertEqual(told, [[0]] * 4 + [[-4]] * 7, call)
 
     def test_a_refused_points_makes_no_graph(self):
         self.assertEqual(ask(begin(), points(0), edge(0, 0), points(17), tutte(0, 0)), [[0], [-1], [-4], [-1], [-4]])
